@@ -1,0 +1,1 @@
+"""Unitlimits: lengths of texts in several units."""
