@@ -2,16 +2,29 @@
 
 from unitlimits.bounds import MAX_LETTERS, MAX_STATES
 
+# More than MAX_LETTERS, because callers may go somewhat beyond it.
+LETTERS = "abcdefghijklmnopqrstuvwxyz"
+
+
+def is_integer(value):
+    """Whether a value is an integer."""
+    # A bool is an int to Python, but no integer to the document.
+    return isinstance(value, int) and not isinstance(value, bool)
+
 
 def is_number(value, least, most):
     """Whether a value is an integer from least to most."""
-    # A bool is an int to Python, but no integer to the document.
-    return isinstance(value, int) and not isinstance(value, bool) and least <= value <= most
+    return is_integer(value) and least <= value <= most
 
 
 def letter_number(letter):
     """The number of a letter, counted from 0."""
     return ord(letter) - ord("a")
+
+
+def are_letters(value, letters):
+    """Whether a value is a text of so many letters."""
+    return isinstance(value, str) and all([0 <= letter_number(letter) < letters for letter in value])
 
 
 def kind_error(value):
@@ -66,7 +79,7 @@ def used(kind):
     steps = [[item for item in row if item is not None] for row in rows]
     come_to = _reached(steps, [0])
     # From the ends backwards: where no way goes on to an end, no word of the kind passes.
-    go_on = _reached(_turned(steps), [state for state, end in enumerate(ends) if end])
+    go_on = _reached(turned(steps), [state for state, end in enumerate(ends) if end])
     return tuple([state for state in range(len(rows)) if come_to[state] and go_on[state]])
 
 
@@ -82,6 +95,10 @@ def _reached(steps, begins):
     return reached
 
 
-def _turned(steps):
+def turned(steps):
     """The steps the other way round: for each state, the states with a step to it."""
-    return [[begin for begin, targets in enumerate(steps) if state in targets] for state in range(len(steps))]
+    back = [[] for _ in steps]
+    for begin, targets in enumerate(steps):
+        for target in targets:
+            back[target].append(begin)
+    return back
