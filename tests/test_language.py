@@ -1,4 +1,4 @@
-"""The rules of the Python subset that are quickly told from the files: L1, L2, L6, L7, L8, L10, L14, L15, L17."""
+"""The rules of the Python subset that are quickly told from the files: L1, L2, L6 to L8, L10, L14 to L17, L20, L27."""
 
 import ast
 import builtins
@@ -21,6 +21,10 @@ BUILTINS = set("""
     RuntimeError NotImplementedError AttributeError StopIteration NotImplemented object float bytes
 """.split())
 BARRED = {"register", "mro", "elements", "open", "input", "law", "version_info", "with_traceback", "add_note"}
+WORDS = set("""
+    type typing typing_extensions enum Enum IntEnum StrEnum Flag IntFlag Generic Protocol ABC ABCMeta namedtuple
+    NamedTuple TypedDict TYPE_CHECKING abstractmethod
+""".split())
 FUNCTIONS = (ast.FunctionDef, ast.AsyncFunctionDef)
 
 
@@ -34,9 +38,14 @@ def texts():
             yield name, held.read()
 
 
-def nodes():
+def trees():
     for name, text in texts():
-        for node in ast.walk(ast.parse(text)):
+        yield name, ast.parse(text)
+
+
+def nodes():
+    for name, tree in trees():
+        for node in ast.walk(tree):
             yield name, node
 
 
@@ -51,6 +60,24 @@ def bound_names(node):
     if isinstance(node, ast.alias):
         return [node.asname or node.name]
     return []
+
+
+def top_names(tree):
+    """The names that a file defines itself."""
+    return {name for node in tree.body if not isinstance(node, ast.ImportFrom)
+            for part in [node, *getattr(node, "targets", [])] for name in bound_names(part)}
+
+
+def own_imports(tree):
+    """Pairs of an imported file of the package and a name."""
+    return [(node.module.removeprefix("unitlimits.") + ".py", alias.name) for node in ast.walk(tree)
+            if isinstance(node, ast.ImportFrom) and node.module.startswith("unitlimits.") for alias in node.names]
+
+
+def docstrings(tree):
+    """The texts that no rule reads."""
+    return [node.body[0].value for node in ast.walk(tree)
+            if isinstance(node, FUNCTIONS + (ast.ClassDef, ast.Module)) and ast.get_docstring(node) is not None]
 
 
 class LanguageTest(unittest.TestCase):
@@ -82,6 +109,20 @@ class LanguageTest(unittest.TestCase):
                     own = node.module.startswith("unitlimits.") and "*" not in taken
                     self.assertTrue(own or taken <= LIBRARY.get(node.module, set()))
 
+    def test_imports_name_the_file_that_defines(self):
+        defined = {name: top_names(tree) for name, tree in trees()}
+        for name, tree in trees():
+            for file, taken in own_imports(tree):
+                self.assertIn(taken, defined[file], name)
+
+    def test_no_two_files_import_from_each_other(self):
+        waiting = {name: {file for file, _ in own_imports(tree)} for name, tree in trees()}
+        while waiting:
+            free = [name for name, needed in waiting.items() if not needed & set(waiting)]
+            self.assertTrue(free, waiting)
+            for name in free:
+                del waiting[name]
+
     def test_builtins(self):
         for name, node in nodes():
             if isinstance(node, ast.Name) and isinstance(node.ctx, ast.Load) and hasattr(builtins, node.id):
@@ -94,11 +135,38 @@ class LanguageTest(unittest.TestCase):
                     self.assertNotIn(bound, BARRED)
                     self.assertTrue(isinstance(node, FUNCTIONS) or not hasattr(builtins, bound))
 
+    def test_names_inside_functions(self):
+        # No parameter, variable or nested function has the name of an import, a class or a function of its file.
+        for name, tree in trees():
+            taken = {taken for _, taken in own_imports(tree)} | top_names(tree)
+            for function in [node for node in ast.walk(tree) if isinstance(node, FUNCTIONS)]:
+                inner = [bound for node in ast.walk(function) if node is not function for bound in bound_names(node)]
+                self.assertEqual(sorted(taken & set(inner)), [], (name, function.name))
+
+    def test_words(self):
+        for name, tree in trees():
+            passed = docstrings(tree)
+            for node in ast.walk(tree):
+                if isinstance(node, ast.Constant) and isinstance(node.value, str) and node not in passed:
+                    found = set(re.findall(r"\w+", node.value))
+                    self.assertEqual(sorted(found & (WORDS - {"type"})), [], (name, node.lineno))
+                    self.assertNotIn("%", node.value, (name, node.lineno))
+                    self.assertIsNone(re.search(r"[^ -~\n\t]", node.value), (name, node.lineno))
+                for bound in bound_names(node):
+                    self.assertNotIn(bound, WORDS, name)
+
     def test_forms_that_are_not_allowed(self):
-        barred = (ast.Global, ast.AsyncFunctionDef, ast.Await, ast.Div)
+        barred = (ast.Global, ast.AsyncFunctionDef, ast.Await, ast.Div, ast.GeneratorExp)
         for name, node in nodes():
+            # A list in the place of each generator expression: a class has a length and an equality of its own.
             self.assertNotIsInstance(node, barred, name)
             self.assertFalse(isinstance(node, ast.Constant) and isinstance(node.value, (float, complex)), name)
+
+    def test_identity(self):
+        for name, node in nodes():
+            if isinstance(node, ast.Compare) and any(isinstance(sign, (ast.Is, ast.IsNot)) for sign in node.ops):
+                last = node.comparators[-1]
+                self.assertTrue(isinstance(last, ast.Constant) and last.value in (None, True, False), name)
 
 
 if __name__ == "__main__":
