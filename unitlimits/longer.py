@@ -34,7 +34,7 @@ def first_longer(kind, units, one, other):
 def _onward(units, one, other, known, letter):
     """What can be known behind one more letter: pairs of the counts and a pair of what is known of one and other.
 
-    Ahead of the mark None stands in the place of this pair. What other leaves as well, or one does not, is left out.
+    Ahead of the mark None stands in the place of this pair. Marks up to which other leaves the word are left out.
     """
     counts, pair = known
     counts = [count + unit[letter] for count, unit in zip(counts, units)]
@@ -48,8 +48,8 @@ def _onward(units, one, other, known, letter):
         pairs = [(marked(one), False)]
     else:
         pairs = [None, (marked(one), marked(other))]
-    return [(_needed(one, other, pair, counts), pair) for pair in pairs
-            if pair is None or pair[0] is not False and pair[1] is not True]
+    return [(_needed(one, other, onward, counts), onward) for onward in pairs
+            if onward is None or onward[1] is not True]
 
 
 def _is_over(cuts, counts):

@@ -1,7 +1,7 @@
 """Whether a row of cuts leaves a word at least up to a mark: a place in it, told while the word is read from there on.
 
 What is known of a row is True (it leaves so much, however the word goes on), False (it does not), or, as long as it
-depends on what follows, a tuple with a pair (over, border) of spans for each cut. The spans count the letters from
+may depend on what follows, a tuple with a pair (over, border) of spans for each cut. The spans count the letters from
 the mark on: span 1 ends with the first letter with which a cut gets over its number, span 2 with the next such
 letter, and so on. over is the span with whose last letter the cut has got over its number, 0 if it is not over it.
 border is the span in which the last border stands that the cut can leave, 0 if this is ahead of the mark.
@@ -20,13 +20,10 @@ def read_on(cuts, row, letter, counts):
     span = _span(row)
     items = []
     for (unit, most, clings), (over, border) in zip(cuts, row):
-        if over > 0:
-            items.append((over, border))
-        elif any([ahead > 0 for ahead, _ in items]):
-            # A cut that is not over its number before one ahead of it takes nothing away: so it may be over it now.
-            items.append((span, span))
-        else:
+        if over == 0:
             items.append((span if counts[unit] > most else 0, border if letter in clings else span))
+        else:
+            items.append((over, border))
     return _known(items)
 
 
@@ -37,14 +34,11 @@ def _span(row):
 
 def _known(items):
     """What is known of a row with these items."""
-    if all([border > 0 for _, border in items]):
-        return True
-    row = tuple(items)
-    return row if waiting(row) else holds(row)
+    return True if all([border > 0 for _, border in items]) else tuple(items)
 
 
 def waiting(row):
-    """The indexes of the cuts of a row that are not over their number."""
+    """The indexes of the cuts of a row whose counts still matter."""
     if row is True or row is False:
         return []
     return [at for at, (over, _) in enumerate(row) if over == 0]
@@ -56,6 +50,7 @@ def holds(row):
         return row
     place = _span(row)
     for over, border in row:
+        # A cut gets over its number with the last letter of a span, so spans tell whether a place is behind this.
         if 0 < over < place:
             place = border
     return place > 0
