@@ -223,6 +223,20 @@ class MostPartsTest(unittest.TestCase):
         self.assertGreater(min(told.values()), 9)
         self.assertEqual(len(told), 3)
 
+    def test_rings_of_many_kinds(self):
+        source = random.Random(10)
+        told = {}
+        for _ in range(250):
+            states = source.randint(1, 3)
+            rows = tuple(tuple(source.randrange(states) for _ in range(2)) for _ in range(states))
+            kind = (2, rows, tuple(source.random() < 0.5 for _ in range(states)))
+            units = (source.choice([(0, 0), (0, 1), (1, 0)]), source.choice([(1, 1), (0, 1), (2, 1), (1, 3)]))
+            cut = (1, source.randint(0, 4), source.choice(["", "a", "b", "ab"]))
+            name = self.check(kind, units, cut, (0, source.randint(0, 1)), list(words_of(kind, 9)))
+            told[name] = told.get(name, 0) + 1
+        self.assertGreater(min(told.values()), 30)
+        self.assertEqual(len(told), 3)
+
     def test_thin_kinds_against_all_words(self):
         source = random.Random(7)
         told = {}

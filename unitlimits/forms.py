@@ -35,11 +35,11 @@ def above(kind, form, bound):
     best[0] = 0
 
     def after(node, letter):
-        state, sum_of = node
+        state, so_far = node
         target = rows[state][letter]
         if target is None:
             return []
-        total = sum_of + form[letter]
+        total = so_far + form[letter]
         # Whatever word goes on from here, it goes on from the earlier word with as great a worth, too.
         if best[target] is not None and best[target] >= total:
             return []
@@ -89,6 +89,7 @@ def _are_heights(kind, form, bound, value):
 def _stand_at(heights, states):
     """Whether heights have integers at these states, and None at the others."""
     for state, height in enumerate(heights):
-        if not is_integer(height) if state in states else height is not None:
+        stands = is_integer(height) if state in states else height is None
+        if not stands:
             return False
     return True
