@@ -11,7 +11,7 @@ def first_word(letters, begins, after, is_end):
     place of which an earlier word has led to one that is as good.
     """
     seen = {node: True for node in begins}
-    # For each word the nodes that no earlier word leads to, the place of the word without its last letter, and this one.
+    # For each word the nodes that no earlier one leads to, the place of the word without its last letter, and this.
     found = [(begins, None, None)]
     at = 0
     while at < len(found):
