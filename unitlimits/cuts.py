@@ -1,8 +1,8 @@
 """Cuts: what they leave of words, and whether rows of them leave the same of all words of a kind, or too much."""
 
 from unitlimits.bounds import MAX_CUT, MAX_CUTS
-from unitlimits.longer import first_longer
-from unitlimits.searches import earlier
+from unitlimits.places import Beyond, Unlike
+from unitlimits.reading import first_read
 from unitlimits.words import are_letters, is_number, letter_number
 
 
@@ -64,11 +64,18 @@ def parts(units, cut, word):
 
 def unlike_cuts(kind, units, one, other):
     """The first word of the kind of which two rows of cuts leave unlike words, or None."""
-    return earlier(first_longer(kind, units, one, other), first_longer(kind, units, other, one))
+    return first_read(kind, units, Unlike(one, other), None)
 
 
 def overlong(kind, units, cuts, limit):
     """The first word of the kind of which the cuts leave a word that does not keep the limit, or None."""
-    index, most = limit
-    # A word that does not keep the limit is longer than what a cut to its number leaves, to which no letter clings.
-    return first_longer(kind, units, cuts, ((index, most, ""),))
+    return first_read(kind, units, Beyond(cuts, limit), _loose(cuts, limit))
+
+
+def _loose(cuts, limit):
+    """The only unit of cuts but that of the limit, if cuts leave as much or more where less is counted in it."""
+    # What a cut leaves ends with a border for those behind it, whatever clings to them: they may leave less of more.
+    if any([clings for _, _, clings in cuts[1:]]):
+        return None
+    units = sorted({unit for unit, _, _ in cuts if unit != limit[0]})
+    return units[0] if len(units) == 1 else None

@@ -3,12 +3,12 @@
 from unitlimits.machines import trimmed
 from unitlimits.searches import earlier, first_word
 from unitlimits.tops import greatest_gain, highest
-from unitlimits.words import are_letters, is_integer, is_of, letter_number, used
+from unitlimits.words import LETTERS, are_letters, is_integer, is_of, used
 
 
 def worth(form, word):
     """The sum of the form's items for the letters of a word, as often as they stand in it."""
-    return sum([form[letter_number(letter)] for letter in word])
+    return sum([item * word.count(letter) for item, letter in zip(form, LETTERS)])
 
 
 def unlike(kind, one, other):
@@ -19,12 +19,12 @@ def unlike(kind, one, other):
 
 def greatest(kind, form):
     """("none",), ("most", number, word) with the greatest worth, or ("ring", begin, round, end) if there is none."""
-    return greatest_gain(kind, _gains(kind, form))
+    return greatest_gain(trimmed(kind), _gain(form))
 
 
-def _gains(kind, form):
-    """What each step of a kind gains: the form's item for its letter."""
-    return [form] * len(kind[1])
+def _gain(form):
+    """The function that tells what a step gains: the form's item for its letter."""
+    return lambda state, letter: form[letter]
 
 
 def above(kind, form, bound):
@@ -57,7 +57,7 @@ def paper(kind, form, bound):
     word = above(kind, form, bound)
     if word is not None:
         return "word", word
-    tops, _ = highest(trimmed(kind), _gains(kind, form))
+    tops, _ = highest(trimmed(kind), _gain(form))
     return "heights", tuple([None if top is None else bound - top for top in tops])
 
 

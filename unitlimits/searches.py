@@ -42,14 +42,31 @@ def _word(found, at):
 
 def first_way(rows, begin, goals):
     """The first word that rows like those of a kind read from the state begin on to one whose goal is True."""
-    def after(state, letter):
-        target = rows[state][letter]
-        return [] if target is None else [target]
+    if goals[begin]:
+        return ""
+    seen = {begin: True}
+    states = [begin]
+    came = [None]
+    at = 0
+    while at < len(states):
+        for letter, target in enumerate(rows[states[at]]):
+            if target is not None and target not in seen:
+                if goals[target]:
+                    return word_to(came, at) + LETTERS[letter]
+                seen[target] = True
+                states.append(target)
+                came.append((at, letter))
+        at += 1
+    return None
 
-    def is_goal(state):
-        return goals[state]
 
-    return first_word(len(rows[0]), [begin], after, is_goal)
+def word_to(came, at):
+    """The word by which a search came to a place, by pairs for each place: the one ahead of it, and the letter."""
+    letters = []
+    while came[at] is not None:
+        at, letter = came[at]
+        letters.append(LETTERS[letter])
+    return "".join(letters[::-1])
 
 
 def earlier(one, other):

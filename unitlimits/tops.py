@@ -1,69 +1,71 @@
 """The greatest that words of a kind can gain, however many states the kind has.
 
-gains has a row for each state, with what the step of each letter gains; a word gains what its steps gain together.
+gain(state, letter) tells what the step of a letter from a state gains; a word gains what its steps gain together. All
+kinds here are trimmed: without steps that no word takes, and without ends that no word comes to.
 """
 
-from unitlimits.machines import trimmed
 from unitlimits.searches import first_way
-from unitlimits.words import LETTERS, turned
+from unitlimits.words import LETTERS
 
 
-def greatest_gain(kind, gains):
+def greatest_gain(kind, gain):
     """("none",), ("most", number, word) or ("ring", begin, round, end), as greatest tells them of a form."""
-    kind = trimmed(kind)
     _, rows, ends = kind
-    tops, ring = highest(kind, gains)
+    tops, ring = highest(kind, gain)
     if ring is not None:
         state, circle = ring
         here = [place == state for place in range(len(rows))]
         return "ring", first_way(rows, 0, here), circle, first_way(rows, state, ends)
     if tops[0] is None:
         return ("none",)
-    return "most", tops[0], _first_top(kind, gains, tops)
+    return "most", tops[0], _first_top(kind, gain, tops)
 
 
-def _first_top(kind, gains, tops):
+def _first_top(kind, gain, tops):
     """The first word that gains as much as the top of state 0."""
     _, rows, ends = kind
     steps = []
-    for row, gained, top in zip(rows, gains, tops):
+    for state, row in enumerate(rows):
         # A step is on a way that gains the most just if it loses nothing against the top.
-        steps.append([item if item is not None and gain + tops[item] == top else None
-                      for item, gain in zip(row, gained)])
+        steps.append([item if item is not None and gain(state, letter) + tops[item] == tops[state] else None
+                      for letter, item in enumerate(row)])
     return first_way(steps, 0, [end and top == 0 for end, top in zip(ends, tops)])
 
 
-def highest(kind, gains):
-    """For each state of a trimmed kind its top, the most that a way from it to an end gains, and None for the ring.
+def highest(kind, gain):
+    """For each state its top, the most that a way from it to an end gains, and None for the ring.
 
     The top of a state that is not used is None. If there are no tops: None, and a ring, which is a state and the
     letters of a way from it back to it that gains more than 0.
     """
     _, rows, ends = kind
     tops = [0 if end else None for end in ends]
-    for component in _components([[item for item in row if item is not None] for row in rows]):
-        circle = _settle(component, rows, gains, tops)
+    for component in components(rows):
+        circle = _settle(component, rows, gain, tops)
         if circle is not None:
             return None, circle
     return tops, None
 
 
-def _components(steps):
+def components(rows):
     """Lists of the states that lead to one another, each list behind those to which its states lead."""
-    components = []
-    seen = [False] * len(steps)
-    for root in _finished(turned(steps))[::-1]:
+    back = [[] for _ in rows]
+    for state, row in enumerate(rows):
+        for target in row:
+            if target is not None:
+                back[target].append(state)
+    seen = [False] * len(rows)
+    for root in _finished(back)[::-1]:
         component = []
         waiting = [root]
         while waiting:
             state = waiting.pop()
-            if not seen[state]:
+            if state is not None and not seen[state]:
                 seen[state] = True
                 component.append(state)
-                waiting.extend(steps[state])
+                waiting.extend(rows[state])
         if component:
-            components.append(component)
-    return components
+            yield component
 
 
 def _finished(steps):
@@ -79,21 +81,25 @@ def _finished(steps):
         elif not seen[state]:
             seen[state] = True
             waiting.append(-1 - state)
-            waiting.extend([target for target in steps[state] if not seen[target]])
+            for target in steps[state]:
+                if not seen[target]:
+                    waiting.append(target)
     return order
 
 
-def _settle(component, rows, gains, tops):
+def _settle(component, rows, gain, tops):
     """Sets the tops of a component, behind which all are set; returns a ring where they grow for ever, or None."""
     inside = {state: True for state in component}
     steps = []
     for state in component:
         for letter, target in enumerate(rows[state]):
+            if target is None:
+                continue
             if target in inside:
-                steps.append((state, letter, target, gains[state][letter]))
-            elif target is not None:
-                _lift(tops, state, gains[state][letter] + tops[target])
-    if any([gain != 0 for _, _, _, gain in steps]):
+                steps.append((state, letter, target, gain(state, letter)))
+            else:
+                _lift(tops, state, gain(state, letter) + tops[target])
+    if any([more != 0 for _, _, _, more in steps]):
         return _settle_steps(steps, tops)
     # All at once, as to go step by step through a great component takes too long.
     top = max([tops[state] for state in component if tops[state] is not None], default=None)

@@ -79,7 +79,7 @@ def used(kind):
     steps = [[item for item in row if item is not None] for row in rows]
     come_to = _reached(steps, [0])
     # From the ends backwards: where no way goes on to an end, no word of the kind passes.
-    go_on = _reached(turned(steps), [state for state, end in enumerate(ends) if end])
+    go_on = _reached(_turned(steps), [state for state, end in enumerate(ends) if end])
     return tuple([state for state in range(len(rows)) if come_to[state] and go_on[state]])
 
 
@@ -95,7 +95,7 @@ def _reached(steps, begins):
     return reached
 
 
-def turned(steps):
+def _turned(steps):
     """The steps the other way round: for each state, the states with a step to it."""
     back = [[] for _ in steps]
     for begin, targets in enumerate(steps):
