@@ -76,5 +76,5 @@ def _hopes(kind, unit, room, form, bound):
     """For each place the most that the form can still count, times a size that comes with it, or a little less."""
     if grows(kind, unit, form):
         return [bound + 1] * (len(kind[1]) * (room + 1)), 1
-    best, size = best_within(kind, unit, room, form, range(len(kind[1])))
+    best, size = best_within(kind, unit, room, form, list(range(len(kind[1]))))
     return [total for state in range(len(kind[1])) for total in best.sums[state][best.ahead:]], size

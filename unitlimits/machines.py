@@ -15,8 +15,8 @@ def within(kind, unit, most):
     """
     letters, rows, ends = kind
     steps = [[(target, count) for target, count in zip(row, unit) if target is not None] for row in rows]
-    ahead = _least_counts(steps, [0])
-    behind = _least_counts(_turned(steps), [state for state, end in enumerate(ends) if end])
+    ahead = least_counts(steps, [0])
+    behind = least_counts(_turned(steps), [state for state, end in enumerate(ends) if end])
     room = [-1 if count is None else most - count for count in behind]
     kept = []
     for row, so_far in zip(rows, ahead):
@@ -38,7 +38,7 @@ def _turned(steps):
     return back
 
 
-def _least_counts(steps, begins):
+def least_counts(steps, begins):
     """For each state the least count of a way of steps to it from one of begins, or None."""
     least = [None] * len(steps)
     for state in begins:

@@ -90,15 +90,16 @@ class Best:
         self.ahead = max([count for _, best in found.values() for _, count, _, _ in best], default=0)
         # By what may still be counted, from as far below 0 on as one letter leads.
         self.sums = {state: [beyond[state][0]] * self.ahead for state in found}
-        told = [(self.sums[state], within[state][0], [(count, total, self.sums[target])
-                                                      for _, count, total, target in best])
-                for state, (_, best) in found.items()]
+        told = []
+        for state, (_, best) in found.items():
+            steps = [(count, total, self.sums[target]) for _, count, total, target in best]
+            told.append((self.sums[state], within[state][0], steps))
         for at in range(self.ahead, self.ahead + most + 1):
-            for own, last, steps in told:
+            for own, last, onward in told:
                 highest = last
-                for count, total, others in steps:
-                    if others[at - count] + total > highest:
-                        highest = others[at - count] + total
+                for less, more, others in onward:
+                    if others[at - less] + more > highest:
+                        highest = others[at - less] + more
                 own.append(highest)
 
     def best_sum(self, state, room):
