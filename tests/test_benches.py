@@ -190,6 +190,11 @@ class EditsTest(unittest.TestCase):
         with self.assertRaises(NoCut):
             bench[-1]
 
+    def test_benches_are_not_iterated_over(self):
+        for bench in (Bench(EVERY, UNITS, ROW), Bench(EVERY, UNITS)):
+            with self.assertRaises(TypeError):
+                list(bench)
+
     def test_operators(self):
         bench = held = Bench(EVERY, UNITS)
         bench += (0, 2, "")

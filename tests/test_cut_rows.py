@@ -115,6 +115,16 @@ class UnlikeCutsTest(RowsTest):
             told = unlike_cuts(line_of(word), units, row, ((0, 0, "b"),))
             self.assertEqual(told, None if expected or word == "bac" else word)
 
+    def test_cuts_that_get_over_at_once_where_a_third_one_may_follow(self):
+        # Of "abc" the second cuts leave "ab" and "a", and the first one, if it got over its number, would leave "".
+        units = ((1, 1, 1, 1), (1, 1, 1, 3))
+        one, other = ((0, 20, "bc"), (1, 2, "")), ((0, 20, "bc"), (1, 2, "c"))
+        self.assertEqual([plain_left(units, row, "abc") for row in (one, other)], ["ab", "a"])
+        self.assertEqual(unlike_cuts(line_of("abc"), units, one, other), "abc")
+        self.assertEqual(unlike_cuts(line_of("abc" + "bc" * 8), units, one, other), "abc" + "bc" * 8)
+        self.assertIsNone(unlike_cuts(line_of("abc" + "bc" * 9), units, one, other))
+        self.assertEqual(unlike_cuts(line_of("abca" + "bc" * 9), units, one, other), "abca" + "bc" * 9)
+
     def test_cuts_of_single_words(self):
         # The numbers of letters that are left, each by a cut that leaves so many letters.
         source = random.Random(12)
@@ -264,6 +274,16 @@ class OverlongTest(RowsTest):
                 (((0, 3, ""),), (0, 3), None), (((0, 4, "b"),), (0, 3), "aabb"), (((0, 3, "ab"),), (0, 0), None),
                 (((0, 2, ""), (0, 3, "b")), (0, 1), "aabb"), (((0, 3, ""), (0, 2, "b")), (0, 1), None)):
             self.assertEqual(overlong(kind, ((1, 1),), row, limit), word, (row, limit))
+
+    def test_a_word_that_counts_more_may_be_left_more_of(self):
+        # Where the first cut leaves less, its end is a border for the second one, in which letters cling.
+        rows = ((1, 1, None, None), (None, None, 2, None), (None, None, None, 3), (None,) * 4)
+        kind = (4, rows, (False,) * 3 + (True,))
+        units, row = ((0, 1, 0, 1), (0, 0, 1, 1)), ((0, 1, ""), (1, 1, "cd"))
+        self.assertEqual([plain_left(units, row, word) for word in ("acd", "bcd")], ["", "bc"])
+        self.assertEqual(overlong(kind, units, row, (1, 0)), "bcd")
+        self.assertIsNone(overlong(kind, units, row[:1] + ((1, 1, ""),), (1, 1)))
+        self.assertEqual(overlong(kind, units, row[:1] + ((1, 1, ""),), (1, 0)), "acd")
 
     def test_cuts_up_to_20_on_thin_kinds(self):
         source = random.Random(7)

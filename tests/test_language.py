@@ -1,4 +1,7 @@
-"""The rules of the Python subset that are quickly told from the files: L1, L2, L6 to L8, L10, L14 to L17, L20, L27."""
+"""The rules of the Python subset that are quickly told from the files, each of them in part.
+
+They are L1, L2, L5 to L8, L10, L13 to L17, L19, L20, L22 to L27.
+"""
 
 import ast
 import builtins
@@ -25,6 +28,17 @@ WORDS = set("""
     type typing typing_extensions enum Enum IntEnum StrEnum Flag IntFlag Generic Protocol ABC ABCMeta namedtuple
     NamedTuple TypedDict TYPE_CHECKING abstractmethod
 """.split())
+# Methods of builtin values, and the double-underscore methods that operators need no care for.
+METHODS = set("""
+    append clear copy count endswith extend find get index insert isalnum isalpha isdigit islower isspace isupper items
+    join keys ljust lower lstrip partition pop remove replace reverse rfind rjust rpartition rsplit rstrip setdefault
+    split splitlines startswith strip update upper values zfill bit_length title capitalize swapcase casefold center
+    expandtabs removeprefix removesuffix rindex isascii isdecimal isnumeric istitle isidentifier isprintable
+""".split())
+DOUBLE = {"__init__", "__eq__", "__repr__", "__str__", "__len__", "__getitem__", "__setitem__", "__iter__", "__iadd__",
+          "__isub__"}
+VIEWS = {"zip", "enumerate", "reversed", "range", "items", "keys", "values"}
+ITERATING = {"list", "tuple", "dict", "sorted", "sum", "any", "all", "enumerate", "zip", "min", "max", "len"}
 FUNCTIONS = (ast.FunctionDef, ast.AsyncFunctionDef)
 
 
@@ -161,6 +175,61 @@ class LanguageTest(unittest.TestCase):
             # A list in the place of each generator expression: a class has a length and an equality of its own.
             self.assertNotIsInstance(node, barred, name)
             self.assertFalse(isinstance(node, ast.Constant) and isinstance(node.value, (float, complex)), name)
+
+    def test_methods(self):
+        own = {node.name for _, node in nodes() if isinstance(node, FUNCTIONS)}
+        for name, node in nodes():
+            if isinstance(node, ast.Call) and isinstance(node.func, ast.Attribute):
+                self.assertIn(node.func.attr, METHODS | own | {"__init__"}, (name, node.lineno))
+            if isinstance(node, FUNCTIONS) and node.name.startswith("__"):
+                self.assertIn(node.name, DOUBLE, (name, node.lineno))
+
+    def test_what_is_iterated_at_once(self):
+        # zip(..), range(..), d.items() and the like stand behind "in", or in what goes over them on the spot.
+        for name, tree in trees():
+            passed = set()
+            for node in ast.walk(tree):
+                if isinstance(node, (ast.For, ast.comprehension)):
+                    passed.add(node.iter)
+                elif isinstance(node, ast.Call) and getattr(node.func, "id", None) in ITERATING:
+                    passed.update(node.args)
+                elif isinstance(node, ast.Compare) and isinstance(node.ops[0], (ast.In, ast.NotIn)):
+                    passed.update(node.comparators)
+            for node in ast.walk(tree):
+                if isinstance(node, ast.Call):
+                    called = getattr(node.func, "id", getattr(node.func, "attr", None))
+                    self.assertTrue(called not in VIEWS or node in passed, (name, node.lineno))
+
+    def test_handlers_and_finally(self):
+        errors = {node.name for _, node in nodes() if isinstance(node, ast.ClassDef)} | {
+            "KeyError", "ZeroDivisionError", "ValueError", "LookupError", "IndexError"}
+        for name, node in nodes():
+            if isinstance(node, ast.ExceptHandler):
+                caught = node.type.elts if isinstance(node.type, ast.Tuple) else [node.type]
+                self.assertTrue({part.id for part in caught} <= errors, (name, node.lineno))
+            if isinstance(node, ast.Try):
+                for line in [part for line in node.finalbody for part in ast.walk(line)]:
+                    self.assertNotIsInstance(line, (ast.Call, ast.Return, ast.Raise, ast.For, ast.While, ast.Subscript),
+                                             (name, node.lineno))
+
+    def test_lambdas_and_sets(self):
+        for name, tree in trees():
+            lines = [node.lineno for node in ast.walk(tree) if isinstance(node, ast.Lambda)]
+            self.assertEqual(len(lines), len(set(lines)), name)
+            parents = {child: node for node in ast.walk(tree) for child in ast.iter_child_nodes(node)}
+            for node in ast.walk(tree):
+                if isinstance(node, (ast.Set, ast.SetComp)) or (
+                        isinstance(node, ast.Call) and getattr(node.func, "id", None) in ("set", "frozenset")):
+                    held = parents[node]
+                    called = getattr(getattr(held, "func", None), "id", None)
+                    self.assertIn(called, ("sorted", "len"), (name, node.lineno))
+
+    def test_default_values(self):
+        for name, node in nodes():
+            if isinstance(node, (*FUNCTIONS, ast.Lambda)):
+                for value in node.args.defaults + node.args.kw_defaults:
+                    self.assertTrue(value is None or not any(isinstance(part, (ast.List, ast.Dict, ast.Set, ast.Call))
+                                                             for part in ast.walk(value)), name)
 
     def test_identity(self):
         for name, node in nodes():

@@ -286,6 +286,31 @@ class MostKeptTest(unittest.TestCase):
         self.assertGreater(min(told.values()), 60)
         self.assertEqual(len(told), 3)
 
+    def test_words_of_equal_worth_and_length(self):
+        # Of those the first, whether its letters count something or not, and in whatever order states are come to.
+        fork = (2, ((1, 1), (None, None)), (False, True))
+        self.assertEqual(most_kept(fork, ((1, 0), 1), (1, 1)), ("most", 1, "a"))
+        self.assertEqual(most_kept(fork, ((0, 1), 1), (1, 1)), ("most", 1, "a"))
+        self.assertEqual(most_kept(fork, ((1, 0), 0), (1, 1)), ("most", 1, "b"))
+        for kind, limit, form, told in (
+                ((4, ((2, 3, 2, 0), (1, 1, 3, 0), (3, 2, 0, 1), (0, 3, 1, 0)), (False, True, True, True)),
+                 ((0, 0, 0, 0), 0), (-1, 0, 0, -2), ("most", 0, "b")),
+                ((4, ((3, 1, 1, 3), (3, 2, 1, 0), (0, 3, 1, 2), (2, 0, 0, 2)), (False, False, True, False)),
+                 ((0, 0, 1, 0), 0), (-1, 0, -1, 0), ("most", 0, "bb")),
+                ((4, ((3, 1, 0, 3), (3, 3, 3, 1), (2, 0, 3, 2), (1, 2, 3, 0)), (False, True, False, True)),
+                 ((0, 0, 1, 0), 2), (-2, -1, 1, -1), ("most", 1, "bcc")),
+                ((4, ((0, 3, 1, 2), (3, 3, 0, 2), (1, 0, 0, 3), (0, 0, 1, 0)), (False, True, False, True)),
+                 ((0, 0, 0, 0), 3), (0, -2, -1, 0), ("most", 0, "da"))):
+            self.assertEqual(self.check(kind, limit, form), "most")
+            self.assertEqual(most_kept(kind, limit, form), told)
+        source = random.Random(8)
+        for _ in range(600):
+            letters, states = source.choice([2, 3, 4]), source.randint(2, 5)
+            rows = tuple(tuple(source.randrange(states) for _ in range(letters)) for _ in range(states))
+            kind = (letters, rows, tuple(source.random() < 0.4 for _ in range(states)))
+            limit = (tuple(source.choice([0, 0, 0, 1]) for _ in range(letters)), source.randint(0, 3))
+            self.check(kind, limit, random_form(source, letters, -2, source.choice([0, 0, 1])))
+
     def test_thin_kinds(self):
         source = random.Random(5)
         for kind in THIN.values():

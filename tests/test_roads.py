@@ -225,6 +225,15 @@ class UnlikeRoadsTest(unittest.TestCase):
         ring = (1, tuple((at + 1,) for at in range(7)) + ((0,),), (True,) + (False,) * 7)
         self.assertEqual(unlike_roads(ring, ((1,), (2,)), (0,), (1,), 1), ("a" * 8, 1))
 
+    def test_letters_ahead_that_count_nothing(self):
+        # Then the greatest number may still be counted as a whole on both roads.
+        kind = (2, ((1, None), (None, 2), (None, None)), (False, False, True))
+        for most in range(9):
+            units = ((0, most), (0, most + 1))
+            self.assertEqual(unlike_roads(kind, units, (0,), (1,), most), ("ab", most))
+            if most:
+                self.assertIsNone(unlike_roads(kind, units, (0,), (1,), most - 1))
+
     def test_each_number_from_0_to_20(self):
         kind = (2, ((0, 1), (None, None)), (True, True))
         for most in range(21):

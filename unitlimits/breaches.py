@@ -21,9 +21,9 @@ def first_over(kind, unit, bound):
 
 
 def first_breach(kind, behind, unit, room, form, bound):
-    """The first word of a trimmed kind that counts at most room in a unit, and more than the bound in a form, or None.
+    """The first word of a trimmed kind that counts at most room in a unit, and more than the bound in a form.
 
-    behind tells what a way from each state to an end counts in the unit at the least.
+    There is such a word. behind tells what a way from each state to an end counts in the unit at the least.
     """
     span = room + 1
     steps = _steps(kind, behind, unit, form, span)
@@ -33,7 +33,7 @@ def first_breach(kind, behind, unit, room, form, bound):
     nodes = [(room, 0)]
     came = [None]
     at = 0
-    while at < len(nodes):
+    while True:
         place, so_far = nodes[at]
         for letter, onward, least, gain, is_end in steps[place // span]:
             after = place + onward
@@ -47,7 +47,6 @@ def first_breach(kind, behind, unit, room, form, bound):
                     nodes.append((after, total))
                     came.append((at, letter))
         at += 1
-    return None
 
 
 def _steps(kind, behind, unit, form, span):

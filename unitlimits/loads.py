@@ -62,7 +62,7 @@ def first_of_most(steps, ends, found, base, room):
     came = [None]
     seen = {}
     at = 0
-    while at < len(nodes):
+    while True:
         state, left, load, more = nodes[at]
         for letter, target, spent, count, group in steps[state]:
             is_over = load + count >= base
@@ -75,7 +75,6 @@ def first_of_most(steps, ends, found, base, room):
                 nodes.append(node)
                 came.append((at, letter))
         at += 1
-    return 0, ""
 
 
 def with_loads(letters, steps, ends, behind, base, room):

@@ -6,7 +6,8 @@ number. Behind a cut that is over its number none matters any more in the row, u
 when a cut gets over its number, what stands behind its place in the tuple is taken away.
 
 A place is told by a number, which says as much of the place as is asked. That of the end of the word is END, wherever
-the word will end. What is known of two rows is (one, other, begun); borders matter only if begun is True.
+the word will end. What is known of two rows is (one, other, begun); borders matter only if begun is True. Where it is
+known that the word is looked for, however it goes on, True stands in the place of this, and False where it never is.
 """
 
 END = 1
@@ -35,7 +36,7 @@ class Unlike:
         return self.judged((one, other, True))
 
     def judged(self, known):
-        """What is known, with the least numbers; True if the word is looked for, however it goes on, False if not."""
+        """What is known, with the least numbers for places."""
         one, other, begun = known
         shared = {}
         for place in one:
@@ -87,10 +88,8 @@ class Beyond:
         return self.judged((_moved(self.one, one, letter, END), other, True)) if begun else known
 
     def judged(self, known):
-        """What is known; True if the word is looked for, however it goes on, False if not."""
+        """What is known once some cut is over its number."""
         one, other, _ = known
-        if len(other) == 2:
-            return known if len(one) > len(self.one) else False
         if min(one) == END or max(one) == 0:
             return min(one) == END
         return one, other, True

@@ -103,9 +103,8 @@ class Best:
                 own.append(highest)
 
     def best_sum(self, state, room):
-        """The sum of the best word that goes on where so much may still be counted, or None if there is none."""
-        total = self.sums[state][self.ahead + room]
-        return None if total < NEVER // 2 else total
+        """The sum of the best word that goes on where so much may still be counted, about NEVER if there is none."""
+        return self.sums[state][self.ahead + room]
 
     def best_word(self, state, room):
         """The best word that goes on where so much may still be counted, which there is."""

@@ -119,18 +119,35 @@ def _lift(tops, state, top):
 def _settle_steps(steps, tops):
     """Lifts tops along the steps of a component till none is lifted; or returns a ring if there is no end to this."""
     following = {}
-    lifted = True
+    # The round in which a top was lifted last: a step lifts nothing if the top of its target has stayed for a round.
+    lifted_in = {state: 0 for state, _, _, _ in steps}
+    lifted = lifted_in
+    at = 0
     while lifted:
-        lifted = False
+        at += 1
+        lifted = {}
         for state, letter, target, gain in steps:
-            if tops[target] is not None and _lift(tops, state, gain + tops[target]):
+            if lifted_in[target] >= at - 1 and tops[target] is not None and _lift(tops, state, gain + tops[target]):
                 following[state] = (letter, target)
-                lifted = True
+                lifted_in[state] = at
+                lifted[state] = True
         # Tops that are lifted by one another all around have gained on the way.
-        ring = _ring(following)
-        if ring is not None:
-            return ring
+        if _leads_round(following, lifted):
+            return _ring(following)
     return None
+
+
+def _leads_round(following, begins):
+    """Whether following leads on for ever from one of begins."""
+    for begin in begins:
+        state = begin
+        for _ in following:
+            state = following[state][1]
+            if state not in following:
+                break
+        else:
+            return True
+    return False
 
 
 def _ring(following):
