@@ -12,7 +12,7 @@ from unitlimits.searches import word_to
 from unitlimits.words import LETTERS
 
 # Less than every promise.
-NEVER = -10 ** 18
+NEVER = -1000000000000000000
 
 
 def promises(steps, ends, order, base, room):

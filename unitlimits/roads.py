@@ -27,7 +27,7 @@ def _read(unit, word, place, number):
         number = number - unit[letter_number(word[place])]
         if number < 0:
             return place
-        place += 1
+        place = place + 1
     return place
 
 

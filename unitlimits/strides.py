@@ -8,7 +8,7 @@ ways with equal sums are equally long.
 from unitlimits.words import LETTERS
 
 # Less than every sum of weights that a word has.
-NEVER = -10 ** 18
+NEVER = -1000000000000000000
 
 
 def strides(rows, unit, weights, begins):
